@@ -1,0 +1,1 @@
+"""Precedence at table: the calls about one house, answered by firstseat.house."""
