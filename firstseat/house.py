@@ -41,5 +41,5 @@ def answer_to(house, call):
         return [house.apart(call[1], call[2])]
     if call[0] == HOST:
         return [house.host(call[1], call[2])]
-    # No other call is handed in than these and rules.
+    # Any call but these has failed in NUMBERS already, unless it is rules.
     return [house.rules(call[1:])]
