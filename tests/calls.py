@@ -30,6 +30,26 @@ def rules(together=0, sexes=0, countries=0, tongues=0):
     return [5, together, sexes, countries, tongues]
 
 
+def order():
+    return [6]
+
+
+def seats():
+    return [7]
+
+
+def plan():
+    return [8]
+
+
+def check(sitting):
+    return [9, len(sitting), *sitting]
+
+
+def flags(way):
+    return [10, way]
+
+
 def in_one_list(calls):
     return [number for call in calls for number in call]
 
